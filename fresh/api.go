@@ -19,3 +19,15 @@ func Core(c api.Core) api.Core {
 	c.Table = View(c.Table)
 	return c
 }
+
+// Event is a new event.
+func Event(v api.Event) api.Event {
+	v.Word = Word(v.Word)
+	return v
+}
+
+// Link is a new link.
+func Link(l api.Link) api.Link {
+	l.Line.Sender.Queue = Lists(l.Line.Sender.Queue)
+	return l
+}
