@@ -31,14 +31,3 @@ func Link(l api.Link) api.Link {
 	l.Line.Sender.Queue = Lists(l.Line.Sender.Queue)
 	return l
 }
-
-// Air is a new air.
-func Air(a api.Air) api.Air {
-	return api.Air{Flights: All(a.Flights, flight), Ups: List(a.Ups)}
-}
-
-// flight is a new flight.
-func flight(f api.Flight) api.Flight {
-	f.B = List(f.B)
-	return f
-}

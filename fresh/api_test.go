@@ -31,19 +31,17 @@ func TestApi(t *testing.T) {
 	}
 }
 
-// R3: events, links and airs, too.
+// R3: events and links, too.
 func TestMore(t *testing.T) {
 	v := api.Event{Kind: api.EventWord, Peer: 2, Word: api.Word{View: api.View{Nodes: []int{1}}}}
 	gotV := fresh.Event(v)
 	l := api.Link{Peer: 2, Line: api.Line{Sender: api.Sender{Queue: [][]byte{{1}}}}}
 	gotL := fresh.Link(l)
-	a := api.Air{Flights: []api.Flight{{From: 1, B: []byte{1}, Bent: true}}, Ups: []api.Edge{{A: 1}}}
-	gotA := fresh.Air(a)
-	if !reflect.DeepEqual(gotV, v) || !reflect.DeepEqual(gotL, l) || !reflect.DeepEqual(gotA, a) {
+	if !reflect.DeepEqual(gotV, v) || !reflect.DeepEqual(gotL, l) {
 		t.Error("not alike")
 	}
-	gotV.Word.View.Nodes[0], gotL.Line.Sender.Queue[0][0], gotA.Flights[0].B[0], gotA.Ups[0].A = 9, 9, 9, 9
-	if v.Word.View.Nodes[0] != 1 || l.Line.Sender.Queue[0][0] != 1 || a.Flights[0].B[0] != 1 || a.Ups[0].A != 1 {
+	gotV.Word.View.Nodes[0], gotL.Line.Sender.Queue[0][0] = 9, 9
+	if v.Word.View.Nodes[0] != 1 || l.Line.Sender.Queue[0][0] != 1 {
 		t.Error("memory is shared")
 	}
 }

@@ -8,23 +8,23 @@ import (
 	"withy/modulo"
 )
 
-// Blow does an act to the N-th thing on a way; true: it comes to the other end. Of a way with nothing on it nothing is done. The way that was handed in is used up.
+// Blow is a way behind an act on the N-th thing on it, and what comes to the other end by that; false: nothing does. Of a way with nothing on it nothing is done.
 func Blow[T any](way []T, o api.Op) ([]T, T, bool) {
 	var none T
 	if len(way) == 0 {
-		return way, none, false
+		return nil, none, false
 	}
 	at := modulo.Of(o.N, len(way))
-	it := way[at]
+	it, others := way[at], slices.Concat(way[:at], way[at+1:])
 	switch o.Kind {
 	case api.OpDeliver:
-		return slices.Delete(way, at, at+1), it, true
+		return others, it, true
 	case api.OpDrop:
-		return slices.Delete(way, at, at+1), none, false
+		return others, none, false
 	case api.OpTwice:
-		return append(way, it), none, false
+		return slices.Concat(way, []T{it}), none, false
 	case api.OpLate:
-		return append(slices.Delete(way, at, at+1), it), none, false
+		return append(others, it), none, false
 	}
-	return way, none, false
+	return slices.Clone(way), none, false
 }

@@ -32,9 +32,16 @@ func TestBlow(t *testing.T) {
 		{"", "", api.OpTwice, 0, 0, false},
 		{"", "", api.OpLate, 0, 0, false},
 	} {
-		way, it, comes := weather.Blow([]byte(c.way), api.Op{Kind: c.kind, N: c.n})
+		room := []byte(c.way + "xyz")
+		way, it, comes := weather.Blow(room[:len(c.way)], api.Op{Kind: c.kind, N: c.n})
 		if string(way) != c.want || it != c.it || comes != c.comes {
 			t.Errorf("%v: %q, %q, %v", c, way, it, comes)
+		}
+		for i := range way {
+			way[i] = '!'
+		}
+		if string(room) != c.way+"xyz" {
+			t.Errorf("%v: what was handed in was changed: %q", c, room)
 		}
 	}
 }
