@@ -240,7 +240,7 @@ func TestLinks(t *testing.T) {
 
 // Ai1: which airs are alike.
 func TestSame(t *testing.T) {
-	for i, b := range []api.Air{of(), {Ups: ups()[1:]}, of(abc().Flights[:2]...), of(flight(1, 2, "a"), flight(2, 1, "b"), flight(3, 1, "c")), of(flight(2, 1, "a"), flight(2, 1, "b"), bent(flight(3, 1, "c"))), of(flight(1, 2, "x"), flight(2, 1, "b"), bent(flight(3, 1, "c")))} {
+	for i, b := range []api.Air{of(), {Ups: ups()[1:]}, of(abc().Flights[:2]...), of(flight(1, 2, "a"), flight(2, 1, "b"), flight(3, 1, "c")), of(flight(2, 1, "a"), flight(2, 1, "b"), bent(flight(3, 1, "c"))), of(flight(1, 3, "a"), flight(2, 1, "b"), bent(flight(3, 1, "c"))), of(flight(3, 2, "a"), flight(2, 1, "b"), bent(flight(3, 1, "c"))), of(flight(1, 2, "x"), flight(2, 1, "b"), bent(flight(3, 1, "c")))} {
 		if air.Same(abc(), b) || air.Same(b, abc()) {
 			t.Errorf("%d is the same", i)
 		}

@@ -151,6 +151,25 @@ func TestRest(t *testing.T) {
 	}
 }
 
+// Ca1: each end must have heard a sign in its last three ticks.
+func TestLately(t *testing.T) {
+	for id := 1; id <= 2; id++ {
+		f := settled(t, 2, up(1, 2, 5))
+		met := map[int]int{}
+		for range 5 {
+			quiet := f.Links(id)[0].Beat.Quiet
+			met[quiet]++
+			if calm.Rest(f) != (quiet <= 3) {
+				t.Errorf("node %d, %d ticks without a sign: %v", id, quiet, calm.Rest(f))
+			}
+			do(f, api.Op{Kind: api.OpTick, A: id})
+		}
+		if met[3] == 0 || met[4] == 0 {
+			t.Errorf("just %v", met)
+		}
+	}
+}
+
 // Ca1: data in the air is no rest.
 func TestQuiet(t *testing.T) {
 	f := made(t, 2, wide)
@@ -186,6 +205,14 @@ func TestKeep(t *testing.T) {
 				t.Errorf("Keep(%d) did other rounds", rounds)
 			}
 		}
+	}
+	over := made(t, 2, api.Limits{Epoch: 1, Session: 9, Seq: 9})
+	do(over, up(1, 2, 3))
+	for range 20 {
+		do(over, round)
+	}
+	if calm.Keep(over, 5) || calm.Keep(over, 0) {
+		t.Error("what is over is no rest, though it stays as it is")
 	}
 	f, g := made(t, 3, wide), made(t, 3, wide)
 	do(f, links...)

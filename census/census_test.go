@@ -178,6 +178,9 @@ func TestWrong(t *testing.T) {
 	if census.Answers(l[:2], three) {
 		t.Error("the way goes by a core that is not in the list")
 	}
+	if all := []api.Core{other(l[0], 4), other(l[1], 4), other(l[2], 4)}; census.Answers(all, three) {
+		t.Error("a leader that no links lead to")
+	}
 	if all := []api.Core{l[1], l[2]}; !census.Answers(all, three) {
 		t.Error("two of them")
 	}

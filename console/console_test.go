@@ -125,6 +125,12 @@ func TestActs(t *testing.T) {
 	plays(t, then("cut 0 5", "deliver 0", "? flights"), "flights 0")
 	plays(t, then("burst 0 0 1", "deliver 0", "? flights"), "flights 0")
 	plays(t, then("burst 0 0 0", "deliver 0", "? flights"), "flights 1")
+	plays(t, then("tick 2", "cut 1 0", "burst 1 0 999", "deliver 1", "? flights", "deliver 0", "? flights"), "flights 1", "flights 1")
+	plays(t, then("tick 2", "burst 1 0 999", "deliver 1", "? flights", "deliver 0", "? flights"), "flights 1", "flights 1")
+	plays(t, then("tick 2", "burst 1 2 0", "deliver 1", "? flights"), "flights 2")
+	plays(t, then("tick 2", "cut 0 19", "deliver 1", "? flights", "deliver 0", "? flights"), "flights 2", "flights 2")
+	// What of a burst lies beyond the end is not there.
+	plays(t, then("burst 0 151 1", "deliver 0", "? flights"), "flights 1")
 	plays(t, then("burst 0 152 999999999", "deliver 0", "? flights"), "flights 0")
 	plays(t, then("tick 2", "late 0", "deliver 0", "drop 0", "deliver 0", "? core 2", "? core 1"), "core 2 2 3 1", "core 1 1 4 0")
 	plays(t, then("down 1 2", "? flights", "? ups", "down 1 2", "down 1 9", "down 0 0"), "flights 0", "ups 0")

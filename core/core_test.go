@@ -151,6 +151,16 @@ func TestRefused(t *testing.T) {
 	}
 }
 
+// Co2: links that may just be.
+func TestEdges(t *testing.T) {
+	for _, v := range []api.Event{up(4, 0, 1), up(64, top, top), up(1, 0, top)} {
+		c, _, e := core.Step(made(t, 3, 99), v)
+		if e != api.OK || len(c.Ties) != 1 || c.Ties[0] != (api.Tie{Peer: v.Peer, W: v.W, Session: v.Session, Vow: open}) {
+			t.Errorf("%v: %v, error %d", v, c.Ties, e)
+		}
+	}
+}
+
 // Co2: of peers that it has no tie to: nothing.
 func TestNoTie(t *testing.T) {
 	c := step(t, made(t, 3, 99), up(4, 5, 6), "4 vow")

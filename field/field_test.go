@@ -267,6 +267,15 @@ func TestQuiet(t *testing.T) {
 	if f.Quiet() || f.Queued() != 1 {
 		t.Errorf("%d are queued", f.Queued())
 	}
+	g := made(t, 2, wide)
+	do(t, g, up(1, 2, 5), tick(2), nth(api.OpDeliver, 0), nth(api.OpDeliver, 0), nth(api.OpDrop, 0))
+	if g.Quiet() || g.Queued() != 1 {
+		t.Errorf("%d are queued", g.Queued())
+	}
+	do(t, g, tick(1), nth(api.OpDeliver, 0), nth(api.OpDeliver, -1))
+	if g.Quiet() || g.Queued() != 2 {
+		t.Errorf("%d are queued", g.Queued())
+	}
 	// Lost, and so queued still, though nothing is in the air.
 	do(t, f, nth(api.OpDrop, 0))
 	if f.Quiet() || f.Queued() != 1 {

@@ -172,6 +172,8 @@ func TestMeet(t *testing.T) {
 		{"both", both, open(1), open(1)},
 		{"none such", []api.Op{tick(0), tick(3), tick(-1), come(1, 0), come(0, 0), come(3, 0)}, opening(0, 1), opening(0, 1)},
 		{"open ends send none", then(tick(1), come(1, 0), come(2, 0)), open(1), open(1)},
+		{"nothing at all", then(tick(1), down(1), tick(1), come(1, 0), come(2, 0)), open(2), opening(1, 2)},
+		{"an elder one is not welcome", then(down(1), tick(1), come(1, 0), come(2, 0), down(1), tick(2), come(2, 0), come(1, 0)), opening(2, 3), opening(1, 2)},
 		{"one closes", then(down(1)), opening(1, 2), open(1)},
 		{"and proposes", then(down(1), tick(1), come(1, 0)), opening(1, 2), opening(1, 2)},
 		{"and is open", then(down(1), tick(1), come(1, 0), come(2, 0)), open(2), opening(1, 2)},

@@ -163,6 +163,30 @@ func TestNewPushClose(t *testing.T) {
 	}
 }
 
+// The least limit, and the greatest one.
+func TestLimits(t *testing.T) {
+	for _, limit := range []int{1, top} {
+		if l, e := link.New(2, 5, limit); e != api.OK || !link.Same(l, opening(0, 1)) {
+			t.Errorf("New: error %d", e)
+		}
+		if _, n, e := link.Hear(opening(0, 1), bytesOf(api.Frame{Kind: api.FrameWelcome, Session: 1}), limit); e != api.OK || n.Session != 1 {
+			t.Errorf("Hear: error %d", e)
+		}
+		if _, n, e := link.Tick(opening(0, 1), limit); e != api.OK || len(n.Frames) != 1 {
+			t.Errorf("Tick: error %d", e)
+		}
+		if _, n, e := link.Close(opened(1, 0, 0), limit); e != api.OK || !n.Down {
+			t.Errorf("Close: error %d", e)
+		}
+		if _, n, e := link.Weigh(opened(1, 0, 0), 9, limit); e != api.OK || !n.Down {
+			t.Errorf("Weigh: error %d", e)
+		}
+		if _, e := link.Push(opened(1, 0, 0), nil, limit); e != api.OK {
+			t.Errorf("Push: error %d", e)
+		}
+	}
+}
+
 // Lk1: another weight.
 func TestWeigh(t *testing.T) {
 	heavy := func(l api.Link) api.Link { l.W = 7; return l }

@@ -52,6 +52,7 @@ func TestCheck(t *testing.T) {
 		{api.Word{Kind: api.WordWave, Eid: name, View: some}, api.ErrArg},
 		{api.Word{Kind: api.WordWave, Eid: name, View: api.View{Nodes: []int{1}}}, api.ErrArg},
 		{api.Word{Kind: api.WordWave, Eid: name, View: api.View{Links: some.Links}}, api.ErrArg},
+		{api.Word{Kind: api.WordWave, Eid: name, View: api.View{Links: some.Links[:1]}}, api.ErrArg},
 		{api.Word{Kind: api.WordWave, Eid: name, Choice: done}, api.ErrArg},
 		{api.Word{Kind: api.WordWave, Eid: name, View: api.View{Nodes: []int{}, Links: []api.Known{}}}, api.OK},
 
