@@ -55,6 +55,9 @@ func Of(a api.Air) *Sky {
 
 // copied is new flights, with room for one more.
 func copied(flights []api.Flight) []api.Flight {
+	if len(flights) == 0 {
+		return nil
+	}
 	size := 0
 	for i := range flights {
 		size += len(flights[i].B)
